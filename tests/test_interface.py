@@ -1,0 +1,127 @@
+"""Names, parameters and kinds that the document's interface lists."""
+
+import importlib
+import inspect
+import unittest
+
+from producttables import errors
+
+# the parameters of each function, under the file that lists it
+FUNCTIONS = {
+    "basics": {"is_integer": "value", "is_count": "value"},
+    "ratios": {"is_number": "value"},
+    "steps": {
+        "is_grid": "value", "steps": "grid", "rank": "grid", "made_of": "grid, row", "killed": "grid, wide",
+        "joined": "grid, other", "shared": "grid, other",
+    },
+    "tables": {
+        "bad_places": "rows", "times": "table, mixture, other", "added": "table, mixture, other",
+        "scaled": "table, mixture, number", "power": "table, mixture, many", "one": "table",
+        "is_commuting": "table",
+    },
+}
+
+# the methods and properties of each class
+CLASSES = {
+    ("ratios", "Ratio"): (
+        "top, bottom=1",
+        {
+            "over": "self, other", "unsigned": "self", "is_below": "self, other", "is_at_most": "self, other",
+            "total": "numbers", "__add__": "self, other", "__radd__": "self, other", "__sub__": "self, other",
+            "__rsub__": "self, other", "__mul__": "self, other", "__rmul__": "self, other", "__neg__": "self",
+            "__eq__": "self, other", "__str__": "self", "__repr__": "self",
+        },
+        ["top", "bottom", "sign", "is_whole"],
+    ),
+    ("tables", "Table"): (
+        "rows",
+        {"rows": "self", "thing": "self, place", "__eq__": "self, other", "__repr__": "self"},
+        ["size"],
+    ),
+}
+
+ERRORS = {
+    "MixError": (ValueError, {
+        "value": "InvalidGrid InvalidLine InvalidMany InvalidMixture InvalidMixtures InvalidNumber InvalidPart"
+                 " InvalidRoom InvalidTable InvalidClaim InvalidCommand InvalidLots InvalidPaper InvalidPlace"
+                 " InvalidRow InvalidRows InvalidSquares InvalidThing InvalidTurns InvalidWeb",
+        "": "DividedByZero", "position": "InvalidLines", "line": "InvalidText", "places": "NotGood",
+    }),
+    "MissingError": (LookupError, {"value": "UnknownLabel UnknownName"}),
+    "StateError": (RuntimeError, {
+        "position": "CommandFailed", "label": "LabelTaken", "name": "NameTaken", "places": "NotRoom",
+        "": "Dying NoOne NotClosed NotDying NotGroup NotKept NotLiving NotSide NotUndone NotWhole NothingLeft"
+            " NothingToRedo NothingToUndo NoughtLine UnlikeTables UnlikeWidths",
+    }),
+    "LimitError": (ArithmeticError, {"what, limit": "TooMany"}),
+}
+
+
+def module(name):
+    return importlib.import_module("producttables." + name)
+
+
+def parameters(function):
+    return ", ".join(str(parameter) for parameter in inspect.signature(function).parameters.values())
+
+
+class Interface(unittest.TestCase):
+    def test_functions(self):
+        for name, functions in FUNCTIONS.items():
+            for word, told in functions.items():
+                function = vars(module(name))[word]
+                self.assertTrue(inspect.isfunction(function), word)
+                self.assertEqual(function.__module__, "producttables." + name)
+                self.assertEqual(function.__name__, word)
+                self.assertEqual(parameters(function), told, word)
+
+    def test_classes(self):
+        for (name, word), (told, methods, properties) in CLASSES.items():
+            made = vars(module(name))[word]
+            self.assertEqual(made.__module__, "producttables." + name)
+            self.assertEqual(made.__bases__, (object,))
+            self.assertEqual(parameters(made), told)
+            for method, told_there in methods.items():
+                self.assertIn(method, vars(made))
+                self.assertEqual(parameters(getattr(made, method)), told_there, method)
+            for one in properties:
+                self.assertIsInstance(vars(made)[one], property)
+                self.assertIsNone(vars(made)[one].fset)
+
+    def test_total_is_a_class_method(self):
+        self.assertIsInstance(vars(module("ratios").Ratio)["total"], classmethod)
+
+
+class Errors(unittest.TestCase):
+    def test_families(self):
+        for name, (base, _) in ERRORS.items():
+            self.assertEqual(getattr(errors, name).__bases__, (base,))
+            self.assertEqual(getattr(errors, name).__module__, "producttables.errors")
+
+    def test_each_error(self):
+        seen = set(ERRORS)
+        for name, (_, told) in ERRORS.items():
+            for attributes, words in told.items():
+                for word in words.split():
+                    self.check(getattr(errors, word), getattr(errors, name), attributes)
+                    seen.add(word)
+        self.assertEqual({word for word, one in vars(errors).items() if inspect.isclass(one)}, seen)
+
+    def check(self, error, family, attributes):
+        self.assertEqual(error.__bases__, (family,))
+        self.assertEqual(error.__module__, "producttables.errors")
+        names = attributes.split(", ") if attributes else []
+        # by its constructor's parameters: none, or the attributes
+        if names:
+            self.assertEqual(parameters(error), attributes)
+        for values in ([None, ()], [[1, [2]], "things"], [{"a": 1}, errors], [3, True]):
+            values = values[:len(names)]
+            for made in (error(*values), error(**dict(zip(names, values)))):
+                for name, value in zip(names, values):
+                    self.assertIs(getattr(made, name), value)
+                with self.assertRaises(family):
+                    raise made
+
+
+if __name__ == "__main__":
+    unittest.main()
