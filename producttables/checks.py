@@ -2,7 +2,7 @@
 
 from producttables.basics import is_list, is_within
 from producttables.errors import (
-    InvalidGrid, InvalidLine, InvalidMany, InvalidMixture, InvalidMixtures, InvalidNumber, InvalidPart,
+    InvalidGrid, InvalidLine, InvalidMany, InvalidMixture, InvalidMixtures, InvalidPart,
 )
 from producttables.ratios import as_ratio, is_number
 from producttables.rowwork import reduced
@@ -52,13 +52,6 @@ def part_from(size, value):
 def line_from(value):
     """The value as a line, as it stands; None unless it is one."""
     return numbers_from(value, 0, MOST_NUMBERS)
-
-
-def need_number(value):
-    """A NUMBER as a Ratio."""
-    if not is_number(value):
-        raise InvalidNumber(value)
-    return as_ratio(value)
 
 
 def need_many(value, least, most):

@@ -49,8 +49,6 @@ class Ratio:
         return Ratio(top, self._bottom * right.bottom)
 
     def __radd__(self, other):
-        if not is_integer(other):
-            return NotImplemented
         return self + other
 
     def __sub__(self, other):
@@ -59,17 +57,13 @@ class Ratio:
         return Ratio(top, self._bottom * right.bottom)
 
     def __rsub__(self, other):
-        if not is_integer(other):
-            return NotImplemented
-        return Ratio(other) - self
+        return as_ratio(other) - self
 
     def __mul__(self, other):
         right = as_ratio(other)
         return Ratio(self._top * right.top, self._bottom * right.bottom)
 
     def __rmul__(self, other):
-        if not is_integer(other):
-            return NotImplemented
         return self * other
 
     def __neg__(self):
@@ -124,9 +118,7 @@ def is_number(value):
 
 
 def as_ratio(number):
-    """A NUMBER as a Ratio."""
+    """A NUMBER as a Ratio; the error of Ratio for any other value."""
     if isinstance(number, Ratio):
         return number
-    if is_integer(number):
-        return Ratio(number)
-    raise InvalidNumber(number)
+    return Ratio(number)

@@ -56,7 +56,7 @@ def joined(grid, other):
 def shared(grid, other):
     """The steps of what both grids make."""
     rows, others = two_grids(grid, other)
-    if not rows or not others:
+    if not rows:
         return []
     wide = len(rows[0])
     # what is killed by all that either of both kills is what both make

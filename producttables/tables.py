@@ -1,9 +1,10 @@
 """Tables of products, and the mixtures that they make."""
 
 from producttables.basics import is_within
-from producttables.checks import need_many, need_mixture, need_number, need_part
+from producttables.checks import need_many, need_mixture, need_part
 from producttables.errors import InvalidPlace, InvalidRows, InvalidTable, NotGood
 from producttables.products import first_bad, one_of, powers_of, product_of, table_rows_from
+from producttables.ratios import as_ratio
 from producttables.rowwork import row_plus, row_scaled, unit_row
 
 MOST_POWER = 30
@@ -87,7 +88,7 @@ def added(table, mixture, other):
 def scaled(table, mixture, number):
     """The mixture, multiplied by the number."""
     _, amounts = rows_and_mixture(table, mixture)
-    return row_scaled(amounts, need_number(number))
+    return row_scaled(amounts, as_ratio(number))
 
 
 def power(table, mixture, many):

@@ -103,7 +103,7 @@ def one_in_letters(one, letters):
     size = len(one)
     square = plain(letters)
     rows = plain_steps([[square[j][i] for j in range(size)] + [one[i]] for i in range(size)])
-    return [row[size] for row in rows]
+    return ratios([row[size] for row in rows])
 
 
 ONES["upper in letters"] = one_in_letters([1, 0, 1], letters_of(3, 3))

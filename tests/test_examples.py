@@ -18,11 +18,38 @@ STAGE_1 = '''
 [2, True, True, True, (0, 0, 0)]
 '''
 
+STAGE_2 = '''
+>>> from producttables.makers import behind, beside, crossed, four_table, in_letters, led_behind, line_table, noughts, upper_table, with_one
+>>> [line_table([-2, 0, 1]) == root, line_table([-4, 0, 2]) == root, upper_table(2).size, crossed(root, upper_table(2)).size, beside(root, noughts(1)).rows()[2][2] == [Ratio(0)] * 3]
+[True, True, 3, 6, True]
+>>> [times(four_table(-1, -1), [0, 0, 1, 0], [0, 1, 0, 0]) == [Ratio(0), Ratio(0), Ratio(0), Ratio(-1)], behind(upper_table(2), [[0, 1, 0]]).size, led_behind(upper_table(2), [[1, 1, 0], [0, 1, 0]], [3, 1, 2]) == [Ratio(2)], in_letters(root, [[0, 1], [1, 0]]).rows()[0][0] == [Ratio(0), Ratio(2)]]
+[True, 2, True, True]
+>>> from producttables.lefts import full_line, left_table, right_table, trace
+>>> from producttables.makers import line_table, upper_table
+>>> corner, hooks = upper_table(2), line_table([0, 0, 0, 1])
+>>> [[str(number) for number in row] for row in left_table(corner, [1, 0, 0])] + [str(trace(corner, [1, 0, 0]))] + [str(number) for number in full_line(corner, [1, 0, 0])]
+[['1', '0', '0'], ['0', '1', '0'], ['0', '0', '0'], '2', '0', '1', '-2', '1']
+>>> from producttables.lowest import least_line, line_at, nothing_power, powers_part
+>>> [[str(number) for number in line_at(hooks, [1, 2, 1], [0, 1, 0])], [str(number) for number in least_line(corner, [1, 0, 0])]]
+[['1', '2', '1'], ['0', '-1', '1']]
+>>> [nothing_power(corner, [0, 5, 0]), nothing_power(corner, [1, 0, 0]), nothing_power(hooks, [0, 1, 1]), len(powers_part(corner, [1, 1, 0]))]
+[2, None, 3, 1]
+>>> from producttables.undoing import commuting, is_killer, is_own_square, killer, undone
+>>> [[str(number) for number in undone(hooks, [1, 1, 0])], undone(hooks, [0, 1, 1]), killer(hooks, [1, 1, 0]), is_killer(corner, [1, 0, 0], [0, 0, 2])]
+[['1', '-1', '1'], None, None, True]
+>>> [len(commuting(corner, [[1, 0, 0]])), len(commuting(corner, [])), is_own_square(corner, [1, 1, 0]), is_own_square(corner, [0, 1, 0])]
+[2, 3, True, False]
+>>> from producttables.lines import bare, degree, divided, times, worth
+>>> from producttables.ratios import Ratio
+>>> [degree([1, 0, 2, 0]), times([1, 1], [-1, 1]) == [Ratio(-1), Ratio(0), Ratio(1)], worth([1, Ratio(1, 2)], 4), bare([12, 12, 3]) == [Ratio(2), Ratio(1)], divided([1, 0, 1], [0, 2])[1]]
+[2, True, Ratio(3, 1), True, [Ratio(1, 1)]]
+'''
+
 
 class Examples(unittest.TestCase):
     def test_examples(self):
         names = {}
-        for at, text in enumerate([STAGE_1]):
+        for at, text in enumerate([STAGE_1, STAGE_2]):
             test = doctest.DocTestParser().get_doctest(text, names, f"stage {at + 1}", None, 0)
             said = []
             doctest.DocTestRunner(verbose=False).run(test, out=said.append, clear_globs=False)

@@ -19,6 +19,29 @@ FUNCTIONS = {
         "scaled": "table, mixture, number", "power": "table, mixture, many", "one": "table",
         "is_commuting": "table",
     },
+    "makers": {
+        "beside": "table, other", "crossed": "table, other", "turned": "table", "with_one": "table",
+        "in_letters": "table, part", "within": "table, part", "behind": "table, part",
+        "led_behind": "table, part, mixture", "numbers_table": "many", "upper_table": "many", "line_table": "line",
+        "four_table": "first, second", "noughts": "size",
+    },
+    "lefts": {
+        "left_table": "table, mixture", "right_table": "table, mixture", "trace": "table, mixture",
+        "full_line": "table, mixture",
+    },
+    "lowest": {
+        "line_at": "table, line, mixture", "least_line": "table, mixture", "powers_part": "table, mixture",
+        "nothing_power": "table, mixture",
+    },
+    "undoing": {
+        "undone": "table, mixture", "killer": "table, mixture", "is_killer": "table, mixture, value",
+        "commuting": "table, mixtures", "is_own_square": "table, value",
+    },
+    "lines": {
+        "is_line": "value", "told": "line", "degree": "line", "plus": "line, other", "minus": "line, other",
+        "scaled": "line, number", "derived": "line", "times": "line, other", "worth": "line, number",
+        "divided": "line, other", "common": "line, other", "bare": "line",
+    },
 }
 
 # the methods and properties of each class
