@@ -116,15 +116,25 @@ def free_places(told, wide):
 
 def killed_by(rows, wide):
     """The steps of what the rows kill."""
-    told = reduced(rows)
+    # looked at from the right, the places that are no heads are the heads of what is killed
+    told = reduced([row[::-1] for row in rows])
     heads = [head_place(row) for row in told]
     found = []
-    for free in free_places(told, wide):
+    for free in free_places(told, wide)[::-1]:
         killed = unit_row(wide, free)
         for head, row in zip(heads, told):
             killed[head] = -row[free]
-        found.append(killed)
-    return reduced(found)
+        found.append(killed[::-1])
+    return found
+
+
+def shared_by(rows, others, wide):
+    """The steps of what both make."""
+    # where rows and other rows add up to nought in the front half, the back half
+    # tells what the rows alone add up to: the other rows make it, too
+    twice = [row + row for row in rows]
+    once = [row + noughts_row(wide) for row in others]
+    return [row[wide:] for row in reduced(twice + once) if head_place(row) >= wide]
 
 
 def amounts_of(rows, row):

@@ -2,7 +2,7 @@
 
 from producttables.checks import MOST_WIDE, grid_from, need_grid, need_many, numbers_from
 from producttables.errors import InvalidRow, UnlikeWidths
-from producttables.rowwork import amounts_of, killed_by, reduced
+from producttables.rowwork import amounts_of, killed_by, reduced, shared_by
 
 
 def is_grid(value):
@@ -58,6 +58,4 @@ def shared(grid, other):
     rows, others = two_grids(grid, other)
     if not rows:
         return []
-    wide = len(rows[0])
-    # what is killed by all that either of both kills is what both make
-    return killed_by(killed_by(rows, wide) + killed_by(others, wide), wide)
+    return shared_by(rows, others, len(rows[0]))
