@@ -3,7 +3,9 @@
 from producttables.basics import is_list
 from producttables.checks import MOST_THINGS, rows_from
 from producttables.ratios import Ratio
-from producttables.rowwork import amounts_of, combined, dotted, turned_about, unit_rows, without_bottoms
+from producttables.rowwork import (
+    amounts_of, combined, dotted, row_plus, row_scaled, turned_about, unit_rows, without_bottoms,
+)
 
 
 def table_rows_from(value):
@@ -102,3 +104,25 @@ def one_of(rows):
         made.append(ahead + behind)
     things = [number for thing in unit_rows(len(rows)) for number in thing]
     return amounts_of(made, things + things)
+
+
+def line_made(rows, line, mixture, unchanging):
+    """What a told line comes to at the mixture; the one of the table is wanted unless c0 is 0."""
+    made = combined(line[1:], powers_of(rows, mixture, len(line) - 1), len(rows))
+    if not line or line[0].sign == 0:
+        return made
+    return row_plus(row_scaled(unchanging, line[0]), made)
+
+
+def least_line_of(rows, mixture, unchanging):
+    """The line of the least degree, its head 1, that is nought at the mixture; without a one None is passed for it."""
+    # without a one c0 is 0, and only powers from the first one on are looked at
+    lowest = [Ratio(0)] if unchanging is None else []
+    ahead = [] if unchanging is None else [unchanging]
+    made = mixture
+    told = amounts_of(ahead, made)
+    while told is None:
+        ahead.append(made)
+        made = product_of(rows, made, mixture)
+        told = amounts_of(ahead, made)
+    return lowest + [-number for number in told] + [Ratio(1)]

@@ -48,7 +48,8 @@ def combined(amounts, rows, wide):
     added = noughts_row(wide)
     for amount, row in zip(amounts, rows):
         if amount.sign != 0:
-            added = row_plus(added, row_scaled(row, amount))
+            # most numbers of most tables are 0
+            added = [have if number.sign == 0 else have + number * amount for have, number in zip(added, row)]
     return added
 
 
@@ -160,3 +161,16 @@ def makes_all(rows, others):
 def turned_about(rows):
     """The columns of the rows as rows."""
     return [list(column) for column in zip(*rows)]
+
+
+def rising(rows):
+    """The rows by their width, those of one width number by number, the lesser number first."""
+    bottom = 1
+    for row in rows:
+        for number in row:
+            bottom = lcm(bottom, number.bottom)
+    keys = []
+    for place, row in enumerate(rows):
+        worths = [number.top * (bottom // number.bottom) for number in row]
+        keys.append([len(row)] + worths + [place])
+    return [rows[key[-1]] for key in sorted(keys)]

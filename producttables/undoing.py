@@ -2,8 +2,9 @@
 
 from producttables.checks import need_mixtures, numbers_from
 from producttables.errors import NoOne
-from producttables.products import left_rows, one_of, product_of, right_rows
-from producttables.rowwork import amounts_of, is_nought_row, killed_by, row_minus, turned_about
+from producttables.partwork import commuting_part
+from producttables.products import left_rows, one_of, product_of
+from producttables.rowwork import amounts_of, is_nought_row, killed_by, turned_about
 from producttables.tables import need_table, rows_and_mixture
 
 
@@ -37,12 +38,7 @@ def commuting(table, mixtures):
     """The part, told, of what commutes with all of the mixtures."""
     need_table(table)
     others = need_mixtures(table.size, mixtures)
-    rows = table.rows()
-    conditions = []
-    for mixture in others:
-        lefts, rights = left_rows(rows, mixture), right_rows(rows, mixture)
-        conditions.extend(turned_about([row_minus(left, right) for left, right in zip(lefts, rights)]))
-    return killed_by(conditions, table.size)
+    return commuting_part(table.rows(), others)
 
 
 def is_own_square(table, value):

@@ -101,8 +101,8 @@ ONES = {
 def one_in_letters(one, letters):
     """A mixture told by other letters."""
     size = len(one)
-    square = plain(letters)
-    rows = plain_steps([[square[j][i] for j in range(size)] + [one[i]] for i in range(size)])
+    square, told = plain(letters), plain(one)
+    rows = plain_steps([[square[j][i] for j in range(size)] + [told[i]] for i in range(size)])
     return ratios([row[size] for row in rows])
 
 
@@ -117,3 +117,23 @@ def mixtures_of(table, seed, many=3):
     size = table.size
     found = [[0] * size] + [[1 if i == j else 0 for j in range(size)] for i in range(size)]
     return found + [numbers_of(100 * seed + place, size) for place in range(many)]
+
+
+def things_at(size, places):
+    """The things at these places, as a part."""
+    return [[1 if at == place else 0 for at in range(size)] for place in places]
+
+
+# the dying part of each sample table, and its power that is the first one to be nothing
+DYING = {
+    "single": ([], 1), "half": ([], 1), "empty": ([[1]], 2), "empty three": (things_at(3, [0, 1, 2]), 2),
+    "root": ([], 1), "round two": ([], 1), "round three": ([], 1), "round eight": ([], 1),
+    "powers": (things_at(3, [1, 2]), 3), "powers eight": (things_at(8, range(1, 8)), 8),
+    "powers from one": (things_at(3, range(3)), 4), "powers from one, eight": (things_at(8, range(8)), 9),
+    "upper two": ([[0, 1, 0]], 2), "upper three": (things_at(6, [1, 2, 4]), 3), "corner": ([[0, 1]], 2),
+    "squares": ([], 1), "turns": ([], 1), "left things": ([[1, -1]], 2),
+    "left three": ([[1, 0, -1], [0, 1, -1]], 2), "right things": ([[1, -1]], 2),
+    "upper in letters": ([one_in_letters([0, 1, 0], letters_of(3, 3))], 2), "squares in letters": ([], 1),
+    "left in letters": ([one_in_letters(row, letters_of(5, 3)) for row in ([1, 0, -1], [0, 1, -1])], 2),
+    "powers in letters": (things_at(3, range(3)), 4),
+}

@@ -76,6 +76,13 @@ def ratios(value):
     return Ratio(value.numerator, value.denominator)
 
 
+def worths(value):
+    """INTEGERS as Ratios, tuples and lists as they are, all the way down."""
+    if isinstance(value, (list, tuple)):
+        return type(value)(worths(one) for one in value)
+    return Ratio(value) if is_integer(value) else value
+
+
 def tuples(value):
     """Lists as tuples, all the way down."""
     if isinstance(value, list):
@@ -104,15 +111,45 @@ def plain_sum(amounts, rows, wide):
     return [sum((a * row[place] for a, row in zip(amounts, rows)), Fraction(0)) for place in range(wide)]
 
 
+PLAIN_ROWS = {}
+
+
+def plain_rows(table):
+    """The rows of a table as Fractions, kept, as a table never changes."""
+    if id(table) not in PLAIN_ROWS:
+        # the table is kept, too: so no other one gets its id
+        PLAIN_ROWS[id(table)] = table, plain(table.rows())
+    return PLAIN_ROWS[id(table)][1]
+
+
 def plain_times(table, first, second):
     """A product of mixtures by the words of [13]."""
-    rows, size = plain(table.rows()), table.size
+    rows, size = plain_rows(table), table.size
     made = [Fraction(0)] * size
     for i in range(size):
         for j in range(size):
+            amount = first[i] * second[j]
             for k in range(size):
-                made[k] += first[i] * second[j] * rows[i][j][k]
+                if amount and rows[i][j][k]:
+                    made[k] += amount * rows[i][j][k]
     return made
+
+
+def plain_line(line):
+    """A line of Fractions without noughts at its end."""
+    line = list(line)
+    while line and not line[-1]:
+        line.pop()
+    return line
+
+
+def plain_line_times(first, second):
+    """A product of lines of Fractions."""
+    made = [Fraction(0)] * (len(first) + len(second))
+    for i, left in enumerate(first):
+        for j, right in enumerate(second):
+            made[i + j] += left * right
+    return plain_line(made)
 
 
 def plain_determinant(square):
@@ -156,10 +193,10 @@ class Case(unittest.TestCase):
         kept = copy.deepcopy(told)
         names = list(inspect.signature(function).parameters)
         named = dict(zip(names, args))
-        worths = [ratios(one) if isinstance(one, (list, tuple)) else one for one in args]
+        worthy = [worths(one) if isinstance(one, (list, tuple)) else one for one in args]
         ways = [
             function(**named), function(*args[:1], **{name: named[name] for name in names[1:len(args)]}),
-            function(*[tuples(one) for one in args]), function(*worths),
+            function(*[tuples(one) for one in args]), function(*worthy),
         ]
         for way in ways:
             self.assertEqual(way, kept)

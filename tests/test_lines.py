@@ -10,23 +10,8 @@ from producttables.lines import (
     bare, common, degree, derived, divided, is_line, minus, plus, scaled, times, told, worth,
 )
 from producttables.ratios import Ratio
-from support import KINDS, Case, plain, ratios
+from support import KINDS, Case, plain, plain_line as cut, plain_line_times, ratios
 import support
-
-
-def cut(line):
-    line = list(line)
-    while line and not line[-1]:
-        line.pop()
-    return line
-
-
-def plain_line_times(first, second):
-    made = [Fraction(0)] * (len(first) + len(second))
-    for i, left in enumerate(first):
-        for j, right in enumerate(second):
-            made[i + j] += left * right
-    return cut(made)
 
 
 def some_lines():
