@@ -45,11 +45,79 @@ STAGE_2 = '''
 [2, True, Ratio(3, 1), True, [Ratio(1, 1)]]
 '''
 
+STAGE_3 = '''
+>>> from producttables.factors import factors, is_whole
+>>> [([str(number) for number in factor], many) for factor, many in factors([0, 0, -2, 0, 2])]
+[(['-1', '1'], 1), (['0', '1'], 2), (['1', '1'], 1)]
+>>> [is_whole([1, 0, 0, 0, 1]), is_whole([-1, 0, 4]), is_whole([Ratio(1, 3), 5]), is_whole([7])]
+[True, False, True, False]
+>>> from producttables.wholes import is_parting_pair, is_whole_paper, parting_pair
+>>> [is_parting_pair([-1, 0, 1], ([1, 1], [-1, 1])), parting_pair([1, 0, 1]), is_whole_paper([1, 0, 1], (3, 3, [[1, 0, 1]])), is_whole_paper([1, 0, 1], (3, 2, [[1, 0, 1]]))]
+[True, None, True, False]
+>>> [is_whole_paper([1, 0, 1], (5, 2, [[7, 1], [18, 1]])), is_whole_paper([-1, 0, 1], (5, 2, [[1, 1], [24, 1]]))]
+[True, False]
+'''
+
+STAGE_4 = '''
+>>> from producttables.makers import line_table, noughts, upper_table
+>>> from producttables.traces import trace_with, traces
+>>> upper = upper_table(2)
+>>> [[[str(number) for number in row] for row in traces(upper)], str(trace_with(upper, [1, 4, 0], [3, 0, 5]))]
+[[['2', '0', '0'], ['0', '0', '0'], ['0', '0', '1']], '6']
+>>> from producttables.parts import closed_of, is_closed, is_part, is_side, part_power, side_of
+>>> [is_part(upper, [[1, 0, 1], [2, 0, 2]]), is_closed(upper, [[1, 0, 1]]), is_side(upper, [[1, 0, 1]]), part_power(upper, [[0, 5, 0]], 2)]
+[False, True, False, []]
+>>> [len(side_of(upper, [[1, 0, 0]])), len(closed_of(upper, [[1, 1, 0]])), len(side_of(upper, []))]
+[2, 1, 0]
+>>> from producttables.dying import dies, dying, dying_power, is_dying_paper, is_partner
+>>> power = line_table([0, 0, 0, 1])
+>>> [len(dying(power)), dying_power(power), dying_power(noughts(2)), dies(upper, [0, 3, 0]), dies(upper, [1, 0, 0])]
+[2, 3, 2, True, False]
+>>> [is_partner(upper, [1, 0, 0], [1, 5, 0]), is_dying_paper(upper, [0, 3, 0], ([[0, 1, 0]], 2)), is_dying_paper(upper, [0, 3, 0], ([[0, 1, 0]], 1))]
+[True, True, False]
+'''
+
+STAGE_5 = '''
+>>> from producttables.makers import beside, line_table, numbers_table, upper_table
+>>> from producttables.middle import full_one, is_middle, middle
+>>> [len(middle(numbers_table(2))), is_middle(numbers_table(2), [1, 0, 0, 1]), len(full_one(line_table([-2, 0, 1]))[1]), len(middle(upper_table(2)))]
+[1, True, 3, 1]
+>>> from producttables.parting import block_sizes, is_parting, is_simple, parting, square_zero
+>>> falls = beside(line_table([-1, 0, 1]), numbers_table(2))
+>>> [block_sizes(falls), [str(number) for number in parting(line_table([-1, 0, 1]))[0]], is_simple(numbers_table(2)), is_simple(falls)]
+[[(4, 1), (1, 1), (1, 1)], ['1/2', '-1/2'], True, False]
+>>> [is_parting(falls, [[1, 0, 0, 0, 0, 0], [0, 0, 1, 0, 0, 1]]), square_zero(numbers_table(2), [0, 1, 0, 0]), is_simple(upper_table(2))]
+[True, True, False]
+>>> from producttables.lifting import is_lifted, lifted
+>>> [len(lifted(upper_table(2), [[1, 0], [0, 1]])), is_lifted(upper_table(2), [[1, 0]], [[1, 5, 0]]), is_lifted(upper_table(2), [[1, 0]], [[1, 0, 1]])]
+[2, True, False]
+'''
+
+STAGE_6 = '''
+>>> from producttables.partners import partners
+>>> from producttables.ratios import Ratio
+>>> from producttables.makers import line_table
+>>> partners(line_table([-2, 0, 1])) == [[Ratio(1, 2), Ratio(0)], [Ratio(0), Ratio(1, 4)]]
+True
+>>> from producttables.living import halves, is_living, lift
+>>> from producttables.makers import upper_table
+>>> upper = upper_table(2)
+>>> [is_living(upper, [[1, 0, 0], [0, 0, 1]]), is_living(upper, [[1, 0, 1], [0, 1, 1]]), is_living(upper, [[1, 0, 1]])]
+[True, True, False]
+>>> [halves(upper, [[1, 0, 1], [0, 1, 1]], [1, 0, 0]) == ([Ratio(1), Ratio(-1), Ratio(0)], [Ratio(0), Ratio(1), Ratio(0)]), lift(upper, [[1, 0, 1], [0, 1, 1]], [0, 1]) == [Ratio(0), Ratio(1), Ratio(1)]]
+[True, True]
+>>> from producttables.turnings import is_turning, turned_part, turning
+>>> [turned_part(upper, [[1, 0, 0], [0, 0, 1]], [0, 1, 0]) == [[Ratio(1), Ratio(0), Ratio(1)], [Ratio(0), Ratio(1), Ratio(1)]], is_turning(upper, [[1, 0, 0], [0, 0, 1]], [[1, 0, 1], [0, 1, 1]], [0, 1, 0])]
+[True, True]
+>>> turning(upper, [[1, 0, 0], [0, 0, 1]], [[1, 0, 1], [0, 1, 1]]) == [Ratio(0), Ratio(1), Ratio(0)]
+True
+'''
+
 
 class Examples(unittest.TestCase):
     def test_examples(self):
         names = {}
-        for at, text in enumerate([STAGE_1, STAGE_2]):
+        for at, text in enumerate([STAGE_1, STAGE_2, STAGE_3, STAGE_4, STAGE_5, STAGE_6]):
             test = doctest.DocTestParser().get_doctest(text, names, f"stage {at + 1}", None, 0)
             said = []
             doctest.DocTestRunner(verbose=False).run(test, out=said.append, clear_globs=False)

@@ -42,6 +42,37 @@ FUNCTIONS = {
         "scaled": "line, number", "derived": "line", "times": "line, other", "worth": "line, number",
         "divided": "line, other", "common": "line, other", "bare": "line",
     },
+    "factors": {"factors": "line", "is_whole": "line"},
+    "wholes": {
+        "parting_pair": "line", "is_parting_pair": "line, value", "whole_paper": "line",
+        "is_whole_paper": "line, value",
+    },
+    "traces": {"traces": "table", "trace_with": "table, mixture, other"},
+    "parts": {
+        "is_part": "table, value", "told_part": "table, part", "is_made": "table, part, mixture",
+        "is_closed": "table, part", "is_side": "table, part", "part_times": "table, part, other",
+        "part_power": "table, part, many", "closed_of": "table, mixtures", "side_of": "table, mixtures",
+    },
+    "dying": {
+        "dying": "table", "dying_power": "table", "dies": "table, mixture", "partner": "table, mixture",
+        "is_partner": "table, mixture, value", "dying_paper": "table, mixture",
+        "is_dying_paper": "table, mixture, value",
+    },
+    "middle": {"middle": "table", "is_middle": "table, mixture", "full_one": "table"},
+    "parting": {
+        "parting": "table", "blocks": "table", "block_sizes": "table", "is_simple": "table",
+        "is_parting": "table, value", "square_zero": "table, value",
+    },
+    "lifting": {"lifted": "table, mixtures", "is_lifted": "table, mixtures, value"},
+    "partners": {"partners": "table"},
+    "living": {
+        "living": "table", "is_living": "table, value", "halves": "table, part, mixture",
+        "lift": "table, part, mixture",
+    },
+    "turnings": {
+        "turning": "table, part, other", "is_turning": "table, part, other, value",
+        "turned_part": "table, part, mixture",
+    },
 }
 
 # the methods and properties of each class

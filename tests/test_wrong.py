@@ -4,18 +4,21 @@ import importlib
 import unittest
 
 from producttables import errors
+from producttables.ratios import Ratio
 from producttables.tables import Table
-from support import KINDS, Case, is_integer, is_number, is_numbers, is_part
+from support import KINDS, Case, is_integer, is_number, is_numbers, is_part, plain
 
 SIZE = 2
 GOOD = {
     "table": Table([[[1, 0], [0, 1]], [[0, 1], [0, 0]]]), "mixture": [1, 2], "number": 3, "many": 2,
-    "mixtures": [[1, 2], [0, 1]], "part": [[0, 1]], "line": [0, 1, 2], "any": None,
+    "mixtures": [[1, 2], [0, 1]], "part": [[0, 1]], "line": [0, 1, 2], "any": None, "living": [[1, 0]],
+    "dead": [0, 3], "led": [Ratio(2, 3)], "squares": [[1], [0]], "fine table": Table([[[2]]]),
 }
 ERRORS = {
     "table": errors.InvalidTable, "mixture": errors.InvalidMixture, "number": errors.InvalidNumber,
     "many": errors.InvalidMany, "mixtures": errors.InvalidMixtures, "part": errors.InvalidPart,
-    "line": errors.InvalidLine,
+    "line": errors.InvalidLine, "living": errors.InvalidPart, "dead": errors.InvalidMixture,
+    "led": errors.InvalidMixture, "squares": errors.InvalidMixtures, "fine table": errors.InvalidTable,
 }
 # each function with its parameters' kinds, in their sequence; a COUNT with its bounds
 FUNCTIONS = {
@@ -60,6 +63,49 @@ FUNCTIONS = {
     "lines.divided": ["line", "line"],
     "lines.common": ["line", "line"],
     "lines.bare": ["line"],
+    "factors.factors": ["line"],
+    "factors.is_whole": ["line"],
+    "wholes.parting_pair": ["line"],
+    "wholes.is_parting_pair": ["line", "any"],
+    "wholes.whole_paper": ["line"],
+    "wholes.is_whole_paper": ["line", "any"],
+    "traces.traces": ["table"],
+    "traces.trace_with": ["table", "mixture", "mixture"],
+    "parts.is_part": ["table", "any"],
+    "parts.told_part": ["table", "part"],
+    "parts.is_made": ["table", "part", "mixture"],
+    "parts.is_closed": ["table", "part"],
+    "parts.is_side": ["table", "part"],
+    "parts.part_times": ["table", "part", "part"],
+    "parts.part_power": ["table", "part", ("many", 1, 9)],
+    "parts.closed_of": ["table", "mixtures"],
+    "parts.side_of": ["table", "mixtures"],
+    "dying.dying": ["table"],
+    "dying.dying_power": ["table"],
+    "dying.dies": ["table", "mixture"],
+    "dying.partner": ["table", "mixture"],
+    "dying.is_partner": ["table", "mixture", "any"],
+    "dying.dying_paper": ["table", "mixture"],
+    "dying.is_dying_paper": ["table", "mixture", "any"],
+    "middle.middle": ["table"],
+    "middle.is_middle": ["table", "mixture"],
+    "middle.full_one": ["fine table"],
+    "parting.parting": ["fine table"],
+    "parting.blocks": ["fine table"],
+    "parting.block_sizes": ["fine table"],
+    "parting.is_simple": ["table"],
+    "parting.is_parting": ["table", "any"],
+    "parting.square_zero": ["table", "any"],
+    "lifting.lifted": ["table", "squares"],
+    "lifting.is_lifted": ["table", "squares", "any"],
+    "partners.partners": ["fine table"],
+    "living.living": ["table"],
+    "living.is_living": ["table", "any"],
+    "living.halves": ["table", "living", "mixture"],
+    "living.lift": ["table", "living", "led"],
+    "turnings.turning": ["table", "living", "living"],
+    "turnings.is_turning": ["table", "living", "living", "any"],
+    "turnings.turned_part": ["table", "living", "dead"],
 }
 # these want a part of another size, or more than a good one
 WANTS_MORE = ["makers.in_letters"]
@@ -69,6 +115,12 @@ def is_valid(kind, value):
     if isinstance(kind, tuple):
         return is_integer(value) and kind[1] <= value <= kind[2]
     return {
+        # of the quotient by what dies, which has one thing here, 1 and 0 alone are own squares
+        "led": lambda: is_numbers(value, 1, 1),
+        "squares": lambda: is_squares(value),
+        "living": lambda: is_part(value, SIZE),
+        "dead": lambda: is_numbers(value, SIZE, SIZE),
+        "fine table": lambda: isinstance(value, Table),
         "table": lambda: isinstance(value, Table),
         "mixture": lambda: is_numbers(value, SIZE, SIZE),
         "number": lambda: is_number(value),
@@ -80,6 +132,12 @@ def is_valid(kind, value):
 
 def is_mixtures(value):
     return isinstance(value, (list, tuple)) and len(value) <= 8 and all(is_numbers(one, SIZE, SIZE) for one in value)
+
+
+def is_squares(value):
+    if not isinstance(value, (list, tuple)) or len(value) > 8 or not all(is_numbers(one, 1, 1) for one in value):
+        return False
+    return all(plain(one) in ([0], [1]) for one in value) and [plain(one) for one in value].count([1]) < 2
 
 
 def word(kind):
