@@ -185,19 +185,20 @@ def shape(value):
 class Case(unittest.TestCase):
     """Calls in all the ways that [2] lets, and errors as [2] tells them."""
 
-    def call(self, function, *args):
-        """What the function returns, told the same in each way of calling it."""
+    def call(self, function, *args, counts=False):
+        """What the function returns, told the same in each way of calling it; of COUNTS a Ratio is none."""
         before = copy.deepcopy(args)
         shapes = shape(args)
         told = function(*args)
         kept = copy.deepcopy(told)
         names = list(inspect.signature(function).parameters)
         named = dict(zip(names, args))
-        worthy = [worths(one) if isinstance(one, (list, tuple)) else one for one in args]
         ways = [
             function(**named), function(*args[:1], **{name: named[name] for name in names[1:len(args)]}),
-            function(*[tuples(one) for one in args]), function(*worthy),
+            function(*[tuples(one) for one in args]),
         ]
+        if not counts:
+            ways.append(function(*[worths(one) if isinstance(one, (list, tuple)) else one for one in args]))
         for way in ways:
             self.assertEqual(way, kept)
             self.assertEqual(shape(way), shape(kept))

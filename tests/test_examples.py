@@ -113,11 +113,42 @@ True
 True
 '''
 
+STAGE_7 = '''
+>>> from producttables.makers import upper_table
+>>> from producttables.rooms import Room, acts, is_full, is_kept, room_behind, room_within, traces_of
+>>> two = Room(upper_table(2), [[[1, 0], [0, 0]], [[0, 0], [1, 0]], [[0, 0], [0, 1]]])
+>>> [is_kept(two, [[1, 0]]), is_kept(two, [[0, 1]]), is_full(two), room_within(two, [[2, 0]]).size, str(acts(two, [3, 5, 0])[1][0]), [str(number) for number in traces_of(room_behind(two, [[1, 0]]))]]
+[True, False, True, 1, '5', ['0', '0', '1']]
+>>> from producttables.lots import is_split, layer_lots, layers, lots, nought_lot, same_lots
+>>> [lots(two), nought_lot(two), is_split(two), layers(two), layer_lots(two)]
+[[1, 1], 0, False, [2, 1], [[1, 0, 0], [0, 1, 0]]]
+>>> same_lots(two, Room(upper_table(2), [[[0, 0], [0, 1]], [[0, 0], [0, 0]], [[1, 0], [0, 0]]]))
+True
+>>> from producttables.maps import is_map, maps
+>>> [[str(number) for number in row] for row in maps(two, two)]
+[['1', '0', '0', '1']]
+>>> [is_map(two, two, [[3, 0], [0, 3]]), is_map(two, two, [[1, 0], [0, 2]])]
+[True, False]
+'''
+
+STAGE_8 = '''
+>>> from producttables.rooms import own_room
+>>> from producttables.turns import beside_room, group_table, is_turns, rings
+>>> two = [[0, 1], [1, 0]]
+>>> [is_turns(two), is_turns([[0, 1, 2], [1, 2, 0]]), group_table(two).rows()[1][1], rings([[0, 1, 2], [1, 2, 0], [2, 0, 1]])]
+[True, False, [Ratio(1, 1), Ratio(0, 1)], [[[0]], [[0, 1, 2]]]]
+>>> steps(beside_room(own_room(group_table(two)), [[1, 1]])) == [[Ratio(1), Ratio(-1)]]
+True
+>>> from producttables.webs import paths, web_table
+>>> [paths(3, [(0, 1), (1, 2)]), web_table(2, [(0, 1)]).size]
+[[(0, ()), (1, ()), (2, ()), (0, (0,)), (1, (1,)), (0, (0, 1))], 3]
+'''
+
 
 class Examples(unittest.TestCase):
     def test_examples(self):
         names = {}
-        for at, text in enumerate([STAGE_1, STAGE_2, STAGE_3, STAGE_4, STAGE_5, STAGE_6]):
+        for at, text in enumerate([STAGE_1, STAGE_2, STAGE_3, STAGE_4, STAGE_5, STAGE_6, STAGE_7, STAGE_8]):
             test = doctest.DocTestParser().get_doctest(text, names, f"stage {at + 1}", None, 0)
             said = []
             doctest.DocTestRunner(verbose=False).run(test, out=said.append, clear_globs=False)

@@ -73,6 +73,18 @@ FUNCTIONS = {
         "turning": "table, part, other", "is_turning": "table, part, other, value",
         "turned_part": "table, part, mixture",
     },
+    "rooms": {
+        "acts": "room, mixture", "traces_of": "room", "is_full": "room", "own_room": "table",
+        "is_kept": "room, value", "room_within": "room, grid", "room_behind": "room, grid",
+        "room_beside": "room, other",
+    },
+    "lots": {
+        "lots": "room", "nought_lot": "room", "is_split": "room", "layers": "room", "layer_lots": "room",
+        "same_lots": "room, other",
+    },
+    "maps": {"maps": "room, other", "is_map": "room, other, value"},
+    "turns": {"is_turns": "value", "group_table": "turns", "rings": "turns", "beside_room": "room, grid"},
+    "webs": {"paths": "places, arrows", "web_table": "places, arrows"},
 }
 
 # the methods and properties of each class
@@ -91,6 +103,11 @@ CLASSES = {
         "rows",
         {"rows": "self", "thing": "self, place", "__eq__": "self, other", "__repr__": "self"},
         ["size"],
+    ),
+    ("rooms", "Room"): (
+        "table, squares",
+        {"squares": "self", "__eq__": "self, other", "__repr__": "self"},
+        ["size", "table"],
     ),
 }
 

@@ -5,20 +5,24 @@ import unittest
 
 from producttables import errors
 from producttables.ratios import Ratio
+from producttables.rooms import Room
 from producttables.tables import Table
-from support import KINDS, Case, is_integer, is_number, is_numbers, is_part, plain
+from support import KINDS, Case, is_grid, is_integer, is_number, is_numbers, is_part, plain
 
 SIZE = 2
+ROUND = Table([[[1, 0], [0, 1]], [[0, 1], [1, 0]]])
 GOOD = {
     "table": Table([[[1, 0], [0, 1]], [[0, 1], [0, 0]]]), "mixture": [1, 2], "number": 3, "many": 2,
     "mixtures": [[1, 2], [0, 1]], "part": [[0, 1]], "line": [0, 1, 2], "any": None, "living": [[1, 0]],
     "dead": [0, 3], "led": [Ratio(2, 3)], "squares": [[1], [0]], "fine table": Table([[[2]]]),
+    "room": Room(ROUND, ROUND.rows()), "grid": [[2, 2]], "turns": [[1, 0], [0, 1]], "arrows": [(0, 1)],
 }
 ERRORS = {
     "table": errors.InvalidTable, "mixture": errors.InvalidMixture, "number": errors.InvalidNumber,
     "many": errors.InvalidMany, "mixtures": errors.InvalidMixtures, "part": errors.InvalidPart,
     "line": errors.InvalidLine, "living": errors.InvalidPart, "dead": errors.InvalidMixture,
     "led": errors.InvalidMixture, "squares": errors.InvalidMixtures, "fine table": errors.InvalidTable,
+    "room": errors.InvalidRoom, "grid": errors.InvalidGrid, "turns": errors.InvalidTurns, "arrows": errors.InvalidWeb,
 }
 # each function with its parameters' kinds, in their sequence; a COUNT with its bounds
 FUNCTIONS = {
@@ -106,6 +110,27 @@ FUNCTIONS = {
     "turnings.turning": ["table", "living", "living"],
     "turnings.is_turning": ["table", "living", "living", "any"],
     "turnings.turned_part": ["table", "living", "dead"],
+    "rooms.acts": ["room", "mixture"],
+    "rooms.traces_of": ["room"],
+    "rooms.is_full": ["room"],
+    "rooms.own_room": ["table"],
+    "rooms.is_kept": ["room", "any"],
+    "rooms.room_within": ["room", "grid"],
+    "rooms.room_behind": ["room", "grid"],
+    "rooms.room_beside": ["room", "room"],
+    "lots.lots": ["room"],
+    "lots.nought_lot": ["room"],
+    "lots.is_split": ["room"],
+    "lots.layers": ["room"],
+    "lots.layer_lots": ["room"],
+    "lots.same_lots": ["room", "room"],
+    "maps.maps": ["room", "room"],
+    "maps.is_map": ["room", "room", "any"],
+    "turns.group_table": ["turns"],
+    "turns.rings": ["turns"],
+    "turns.beside_room": ["room", "grid"],
+    "webs.paths": [("many", 1, 4), "arrows"],
+    "webs.web_table": [("many", 1, 4), "arrows"],
 }
 # these want a part of another size, or more than a good one
 WANTS_MORE = ["makers.in_letters"]
@@ -127,6 +152,11 @@ def is_valid(kind, value):
         "mixtures": lambda: is_mixtures(value),
         "part": lambda: is_part(value, SIZE),
         "line": lambda: is_numbers(value, 0, 17),
+        "room": lambda: isinstance(value, Room),
+        "grid": lambda: is_grid(value) and (len(value) == 0 or len(value[0]) == SIZE),
+        "turns": lambda: value in ([(1, 0), (0, 1)], ([1, 0], [0, 1])),
+        # without arrows
+        "arrows": lambda: isinstance(value, (list, tuple)) and len(value) == 0,
     }[kind]()
 
 
