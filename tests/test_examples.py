@@ -144,11 +144,37 @@ True
 [[(0, ()), (1, ()), (2, ()), (0, (0,)), (1, (1,)), (0, (0, 1))], 3]
 '''
 
+STAGE_9 = r'''
+>>> from producttables.meets import meet_squares, meet_table
+>>> [meet_table([(), (0,)]).rows()[0][1], meet_squares([(), (0,)])]
+[[Ratio(1, 1), Ratio(0, 1)], [[Ratio(-1, 1), Ratio(1, 1)], [Ratio(1, 1), Ratio(0, 1)]]]
+>>> from producttables.tables import Table
+>>> from producttables.texts import written
+>>> [written(Table([[[1, 0], [0, 1]], [[0, 1], [0, 0]]])), written([[1, 2], [0, 3]]), written([0, 5])]
+['table\nsize 2\ntimes 0 0 1 0\ntimes 0 1 0 1\ntimes 1 0 0 1\n', 'grid\nrow 1 2\nrow 0 3\n', 'numbers 0 5\n']
+>>> from producttables.forms import read
+>>> [Table(read("table\nsize 1\ntimes 0 0 2\n")) == Table([[[2]]]), read("grid\n"), read("grid\nrow 1/2\n") == [[read("numbers 1/2\n")[0]]]]
+[True, [], True]
+>>> from producttables.claims import contrary, is_paper_of, is_true
+>>> short = Table([[[1, 0], [0, 1]], [[0, 1], [0, 0]]])
+>>> [is_true(("dies", (short, [0, 1]))), contrary(("kills", (short, [0, 1])))[0], is_paper_of(("kills", (short, [0, 1])), [0, 3]), is_paper_of(("undone", (short, [1, 1])), [1, -1]), is_paper_of(("parted", short), ("dying", [0, 1]))]
+[True, 'undone', True, True, True]
+>>> from producttables.commands import is_command, is_deed
+>>> [is_command("mixture a t 1 0 -3/2"), is_command("four q 1"), is_deed("web w 2 0-1"), is_command("group g 012 021"), is_deed("undo")]
+[True, False, True, True, False]
+>>> from producttables.desk import Desk
+>>> desk = Desk()
+>>> desk.do_all("powers p 0 0 1", "mixture a p 0 1", "claim up dies a", "dying d p", "show d", "amount a 0 1", "state up", "undone b a", "show b")
+['-', '-', 'up true', '-', '0 1', 'up false', 'false', '-', '1 -1']
+>>> desk.do_all("undo", "undo", "state up", "trace a", "living l p", "show l", "power p")
+['undone b a', 'amount a 0 1', 'true', '0', '-', '1 0', '2']
+'''
+
 
 class Examples(unittest.TestCase):
     def test_examples(self):
         names = {}
-        for at, text in enumerate([STAGE_1, STAGE_2, STAGE_3, STAGE_4, STAGE_5, STAGE_6, STAGE_7, STAGE_8]):
+        for at, text in enumerate([STAGE_1, STAGE_2, STAGE_3, STAGE_4, STAGE_5, STAGE_6, STAGE_7, STAGE_8, STAGE_9]):
             test = doctest.DocTestParser().get_doctest(text, names, f"stage {at + 1}", None, 0)
             said = []
             doctest.DocTestRunner(verbose=False).run(test, out=said.append, clear_globs=False)

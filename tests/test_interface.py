@@ -85,6 +85,15 @@ FUNCTIONS = {
     "maps": {"maps": "room, other", "is_map": "room, other, value"},
     "turns": {"is_turns": "value", "group_table": "turns", "rings": "turns", "beside_room": "room, grid"},
     "webs": {"paths": "places, arrows", "web_table": "places, arrows"},
+    "meets": {"meet_table": "lots", "meet_squares": "lots"},
+    "texts": {"written": "thing"},
+    "forms": {"read": "text"},
+    "claims": {
+        "words": "", "is_claim": "value", "is_true": "claim", "contrary": "claim", "paper_of": "claim",
+        "is_paper_of": "claim, value",
+    },
+    "commands": {"is_name": "value", "is_command": "value", "is_deed": "value"},
+    "desk": {"tried": "desk, action"},
 }
 
 # the methods and properties of each class
@@ -109,6 +118,17 @@ CLASSES = {
         {"squares": "self", "__eq__": "self, other", "__repr__": "self"},
         ["size", "table"],
     ),
+    ("desk", "Desk"): (
+        "",
+        {
+            "__len__": "self", "__getitem__": "self, name", "__contains__": "self, name", "__call__": "self, command",
+            "claim_of": "self, label", "do": "self, command", "do_all": "self, *commands",
+            "attempt": "self, *commands", "attach": "self, label, paper", "fits": "self, label", "lines": "self",
+            "copy": "self", "again": "lines",
+        },
+        ["names", "labels"],
+    ),
+    ("desk", "Trial"): ("desk", {"__enter__": "self", "__exit__": "self, kind, value, trace"}, []),
 }
 
 ERRORS = {
@@ -159,8 +179,14 @@ class Interface(unittest.TestCase):
                 self.assertIsInstance(vars(made)[one], property)
                 self.assertIsNone(vars(made)[one].fset)
 
-    def test_total_is_a_class_method(self):
+    def test_class_methods(self):
         self.assertIsInstance(vars(module("ratios").Ratio)["total"], classmethod)
+        self.assertIsInstance(vars(module("desk").Desk)["again"], classmethod)
+
+    def test_files(self):
+        # each file of the document is there, and each of its names is defined in it
+        for name in {*FUNCTIONS, *[name for name, _ in CLASSES], "errors"}:
+            self.assertEqual(module(name).__name__, "producttables." + name)
 
 
 class Errors(unittest.TestCase):

@@ -56,7 +56,8 @@ def functions_of(tree):
 
 def parameters_of(function):
     told = function.args
-    return [one.arg for one in told.posonlyargs + told.args + told.kwonlyargs]
+    rest = [one for one in (told.vararg, told.kwarg) if one is not None]
+    return [one.arg for one in told.posonlyargs + told.args + told.kwonlyargs + rest]
 
 
 def assigned_in(node):
@@ -221,6 +222,7 @@ class Language(unittest.TestCase):
             known = set(defined_by(tree)) | set(imported_by(tree)) | set(assigned_in(tree))
             for function in functions_of(tree):
                 known |= set(parameters_of(function))
+            known |= {node.name for node in ast.walk(tree) if isinstance(node, ast.ExceptHandler)}
             for node in ast.walk(tree):
                 if isinstance(node, ast.Name) and isinstance(node.ctx, ast.Load):
                     self.assertIn(node.id, known | BUILTINS, f"{name} {node.lineno}")
@@ -235,7 +237,8 @@ class Language(unittest.TestCase):
                 if isinstance(node, ast.Attribute) and isinstance(node.ctx, ast.Store):
                     kept.add(node.attr)
         for word in own | kept:
-            if not (word.startswith("__") and word.endswith("__")):
+            # a method may be called like those of builtin values that may be called
+            if word not in METHODS - kept and not (word.startswith("__") and word.endswith("__")):
                 self.assertFalse(any(hasattr(kind, word) for kind in kinds), word)
                 self.assertNotIn(word, BARRED_NAMES | BARRED_WORDS)
         self.assertEqual(own & kept, set())
@@ -243,6 +246,62 @@ class Language(unittest.TestCase):
             for node in ast.walk(tree):
                 if isinstance(node, ast.Attribute):
                     self.assertIn(node.attr, own | kept | METHODS, f"{name} {node.lineno}")
+
+    def test_own_errors_alone_are_caught(self):
+        for name, tree in trees().items():
+            own = [node.id for node in ast.walk(tree) if isinstance(node, ast.Name)]
+            for node in ast.walk(tree):
+                if isinstance(node, ast.ExceptHandler):
+                    caught = node.type.elts if isinstance(node.type, ast.Tuple) else [node.type]
+                    for one in caught:
+                        self.assertIn(one.id, imported_by(tree), name)
+                        self.assertNotIn(one.id, GIVEN)
+                        self.assertIn(one.id, own)
+                if isinstance(node, ast.Raise):
+                    self.assertTrue(node.exc is None or isinstance(node.exc, ast.Call), name)
+
+    def test_leaving_a_block(self):
+        for name, tree in trees().items():
+            for function in functions_of(tree):
+                if getattr(function, "name", "") != "__exit__":
+                    continue
+                self.assertEqual(parameters_of(function), ["self", "kind", "value", "trace"])
+                for row in function.body:
+                    # nothing but names and attributes
+                    self.assertIsInstance(row, ast.Assign)
+                    for part in (row.value, *row.targets):
+                        self.assertIsInstance(part, (ast.Name, ast.Attribute))
+
+    def test_objects_with_items(self):
+        for name, tree in trees().items():
+            for node in ast.walk(tree):
+                if isinstance(node, ast.ClassDef):
+                    methods = {one.name: one for one in node.body if isinstance(one, ast.FunctionDef)}
+                    if "__getitem__" in methods:
+                        self.assertIsInstance(methods["__iter__"].body[0], ast.Raise)
+                if isinstance(node, ast.Call) and isinstance(node.func, ast.Name) and node.func.id == "reversed":
+                    self.assertEqual(node.args[0].func.id, "range", name)
+                if isinstance(node, ast.Starred):
+                    self.assertIsInstance(node.value, ast.Name, name)
+            for word in ("(type)", "Meta", "metaclass="):
+                self.assertNotIn(word, text_of(name))
+
+    def test_module_level_tables(self):
+        for name, tree in trees().items():
+            told = [node.targets[0].id for node in tree.body
+                    if isinstance(node, ast.Assign) and isinstance(node.value, (ast.Dict, ast.List))]
+            reads = {one.value.id for one in ast.walk(tree) if isinstance(one, (ast.Subscript, ast.Attribute))
+                     and isinstance(one.value, ast.Name)}
+            for node in tree.body:
+                if isinstance(node, ast.Assign) and isinstance(node.value, (ast.Dict, ast.List)):
+                    for one in ast.walk(node.value):
+                        self.assertTrue(one is node.value or not isinstance(one, (ast.Dict, ast.List)), name)
+            # a table is never handed on as it is
+            for node in ast.walk(tree):
+                if isinstance(node, (ast.Call, ast.Return)):
+                    for one in getattr(node, "args", [getattr(node, "value", None)]):
+                        self.assertFalse(isinstance(one, ast.Name) and one.id in told, name)
+            self.assertLessEqual(set(told) - reads, {"DEEDS"}, name)
 
     def test_nothing_but_known_calls_with_keywords(self):
         for name, tree in trees().items():

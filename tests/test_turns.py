@@ -322,6 +322,10 @@ class Wrong(Case):
         self.assertEqual(rank(beside_room(signs, [])), 2)
         other = own(in_letters(SAMPLES["round three"], [[1, 0, 0], [0, -1, 0], [0, 0, 1]]))
         self.fails(NotGroup, beside_room, other, [])
+        # all things make the one with themselves, but u v is -1 + u + v
+        signs = Table([[[1, 0, 0], [0, 1, 0], [0, 0, 1]], [[0, 1, 0], [1, 0, 0], [-1, 1, 1]],
+                       [[0, 0, 1], [-1, 1, 1], [1, 0, 0]]])
+        self.fails(NotGroup, beside_room, own(signs), [])
         # some product is not a thing, or the one is none
         mixed = own(in_letters(SAMPLES["round two"], [[Ratio(1, 2), Ratio(1, 2)], [Ratio(1, 2), Ratio(-1, 2)]]))
         self.fails(NotGroup, beside_room, mixed, [])

@@ -16,6 +16,7 @@ GOOD = {
     "mixtures": [[1, 2], [0, 1]], "part": [[0, 1]], "line": [0, 1, 2], "any": None, "living": [[1, 0]],
     "dead": [0, 3], "led": [Ratio(2, 3)], "squares": [[1], [0]], "fine table": Table([[[2]]]),
     "room": Room(ROUND, ROUND.rows()), "grid": [[2, 2]], "turns": [[1, 0], [0, 1]], "arrows": [(0, 1)],
+    "lots": [(), (0,)], "claim": ("dies", (ROUND, [1, 2])), "thing": [[1, 2], [2, 4]],
 }
 ERRORS = {
     "table": errors.InvalidTable, "mixture": errors.InvalidMixture, "number": errors.InvalidNumber,
@@ -23,6 +24,7 @@ ERRORS = {
     "line": errors.InvalidLine, "living": errors.InvalidPart, "dead": errors.InvalidMixture,
     "led": errors.InvalidMixture, "squares": errors.InvalidMixtures, "fine table": errors.InvalidTable,
     "room": errors.InvalidRoom, "grid": errors.InvalidGrid, "turns": errors.InvalidTurns, "arrows": errors.InvalidWeb,
+    "lots": errors.InvalidLots, "claim": errors.InvalidClaim, "thing": errors.InvalidThing,
 }
 # each function with its parameters' kinds, in their sequence; a COUNT with its bounds
 FUNCTIONS = {
@@ -131,6 +133,13 @@ FUNCTIONS = {
     "turns.beside_room": ["room", "grid"],
     "webs.paths": [("many", 1, 4), "arrows"],
     "webs.web_table": [("many", 1, 4), "arrows"],
+    "meets.meet_table": ["lots"],
+    "meets.meet_squares": ["lots"],
+    "texts.written": ["thing"],
+    "claims.is_true": ["claim"],
+    "claims.contrary": ["claim"],
+    "claims.paper_of": ["claim"],
+    "claims.is_paper_of": ["claim", "any"],
 }
 # these want a part of another size, or more than a good one
 WANTS_MORE = ["makers.in_letters"]
@@ -155,6 +164,9 @@ def is_valid(kind, value):
         "room": lambda: isinstance(value, Room),
         "grid": lambda: is_grid(value) and (len(value) == 0 or len(value[0]) == SIZE),
         "turns": lambda: value in ([(1, 0), (0, 1)], ([1, 0], [0, 1])),
+        "lots": lambda: value == ((),),
+        "claim": lambda: False,
+        "thing": lambda: is_thing(value),
         # without arrows
         "arrows": lambda: isinstance(value, (list, tuple)) and len(value) == 0,
     }[kind]()
@@ -168,6 +180,16 @@ def is_squares(value):
     if not isinstance(value, (list, tuple)) or len(value) > 8 or not all(is_numbers(one, 1, 1) for one in value):
         return False
     return all(plain(one) in ([0], [1]) for one in value) and [plain(one) for one in value].count([1]) < 2
+
+
+def is_thing(value):
+    if isinstance(value, Table) or is_grid(value) or is_numbers(value, 1, 64):
+        return True
+    if not isinstance(value, (list, tuple)) or not 1 <= len(value) <= 8:
+        return False
+    size = len(value)
+    return all(isinstance(row, (list, tuple)) and len(row) == size and all(is_numbers(one, size, size) for one in row)
+               for row in value)
 
 
 def word(kind):
