@@ -6,7 +6,7 @@ from producttables.claims import contrary, is_paper_of
 from producttables.claimwork import copied
 from producttables.commands import DEEDS, command_told, is_deed
 from producttables.deskwork import (
-    Moment, Shelf, are_same, asked, changes_told, claim_noted, is_one_of, need_room_on, shelf_behind, states_told,
+    Moment, Shelf, asked, changes_told, claim_noted, is_one_of, need_room_on, shelf_behind, states_told,
 )
 from producttables.errors import (
     CommandFailed, InvalidCommand, InvalidLines, InvalidPaper, LimitError, MissingError, MixError, NothingToRedo,
@@ -73,15 +73,16 @@ class Desk:
         return answered(self._now.shelf, word, behind)
 
     def _done(self, line, shelf):
+        """Keeps the shelf behind a deed; which states it changed."""
         now = self._now
         need_room_on(shelf)
         if len(now.done) == MOST_DEEDS:
             raise TooMany("deeds", MOST_DEEDS)
         self._now = Moment(shelf, now.papers, now.done + [(line, now.shelf)], [])
-        # a claim that is forgotten changes no state
         return changes_told(now.shelf, shelf)
 
     def _undone(self):
+        """Takes the last deed back; its line."""
         now = self._now
         if not now.done:
             raise NothingToUndo()
@@ -90,6 +91,7 @@ class Desk:
         return line
 
     def _redone(self):
+        """Does the last deed that was taken back again; its line."""
         now = self._now
         if not now.taken:
             raise NothingToRedo()
@@ -202,5 +204,6 @@ def answered(shelf, word, told):
     if word == "size":
         return sized(shelf.things[told[0]][0], given[0])
     if word == "same":
-        return "yes" if are_same(given[0], given[1]) else "no"
+        # parts are kept told: those that make the same mixtures are equal
+        return "yes" if given[0] == given[1] else "no"
     return answer_of(word, given[0])

@@ -167,8 +167,3 @@ def changes_told(before, after):
     """The states of one shelf that another one, ahead of it, did not have."""
     changed = [label for label in after.states if after.states[label] != before.states.get(label, None)]
     return states_told({label: after.states[label] for label in changed})
-
-
-def are_same(kept, other):
-    """Whether two things of one kind are the same: equal tables, rooms, mixtures, or told parts, in equal tables."""
-    return kept == other
